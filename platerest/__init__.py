@@ -1,0 +1,1 @@
+"""Platerest: plates of triangles at rest, told exactly."""

@@ -1,0 +1,84 @@
+"""Fractions: tuples (top, bottom) of whole numbers in least terms, the bottom from 1 on."""
+
+from platerest.errors import NoFraction, NoWhole
+
+
+def is_whole(thing):
+    """Whether the thing is a whole number: an int that is no truth."""
+    return isinstance(thing, int) and not isinstance(thing, bool)
+
+
+def divisor(one, other):
+    """The greatest divisor that two whole numbers have in common; 0 where both are 0."""
+    while other:
+        one, other = other, one % other
+    return abs(one)
+
+
+def reduced(top, bottom):
+    """The fraction that a whole number is by another one, which isn't 0."""
+    common = divisor(top, bottom)
+    if bottom < 0:
+        common = -common
+    return (top // common, bottom // common)
+
+
+def is_fraction(thing):
+    """Whether the thing, whatever it is, is a fraction."""
+    if not isinstance(thing, tuple) or len(thing) != 2:
+        return False
+    top, bottom = thing
+    if not is_whole(top) or not is_whole(bottom) or bottom < 1:
+        return False
+    return divisor(top, bottom) == 1
+
+
+def look_at_both(one, other):
+    """Refuse whichever of the two is no fraction."""
+    if not is_fraction(one):
+        raise NoFraction("the first one is no fraction")
+    if not is_fraction(other):
+        raise NoFraction("the second one is no fraction")
+
+
+def made(top, bottom=1):
+    """The fraction that the top is by the bottom."""
+    if not is_whole(top):
+        raise NoWhole("the top is no whole number")
+    if not is_whole(bottom):
+        raise NoWhole("the bottom is no whole number")
+    if bottom == 0:
+        raise NoWhole("the bottom is nought")
+    return reduced(top, bottom)
+
+
+def plus(one, other):
+    """The sum of two fractions."""
+    look_at_both(one, other)
+    return reduced(one[0] * other[1] + other[0] * one[1], one[1] * other[1])
+
+
+def minus(one, other):
+    """The first fraction less the second."""
+    look_at_both(one, other)
+    return reduced(one[0] * other[1] - other[0] * one[1], one[1] * other[1])
+
+
+def times(one, other):
+    """The product of two fractions."""
+    look_at_both(one, other)
+    return reduced(one[0] * other[0], one[1] * other[1])
+
+
+def over(one, other):
+    """The first fraction by the second, which isn't nought."""
+    look_at_both(one, other)
+    if other[0] == 0:
+        raise NoFraction("the second one is nought")
+    return reduced(one[0] * other[1], one[1] * other[0])
+
+
+def less(one, other):
+    """Whether the first fraction is less than the second."""
+    look_at_both(one, other)
+    return one[0] * other[1] < other[0] * one[1]
