@@ -2,6 +2,9 @@
 
 from platerest.errors import NoFraction, NoWhole
 
+NOUGHT = (0, 1)
+ONE = (1, 1)
+
 
 def is_whole(thing):
     """Whether the thing is a whole number: an int that is no truth."""
@@ -13,6 +16,14 @@ def divisor(one, other):
     while other:
         one, other = other, one % other
     return abs(one)
+
+
+def multiple(bottoms):
+    """The least number that each of the bottoms divides."""
+    many = 1
+    for bottom in bottoms:
+        many = many // divisor(many, bottom) * bottom
+    return many
 
 
 def reduced(top, bottom):
@@ -31,6 +42,25 @@ def is_fraction(thing):
     if not is_whole(top) or not is_whole(bottom) or bottom < 1:
         return False
     return divisor(top, bottom) == 1
+
+
+def are_fractions(thing, many):
+    """Whether the thing, whatever it is, is a tuple of so many fractions."""
+    if not isinstance(thing, tuple) or len(thing) != many:
+        return False
+    return all([is_fraction(part) for part in thing])
+
+
+def levelled(parts):
+    """The tops of fractions over the least bottom that they can have in common, and that bottom."""
+    many = multiple([bottom for top, bottom in parts])
+    return ([top * (many // bottom) for top, bottom in parts], many)
+
+
+def mixed(weights, parts, bottom=1):
+    """The sum of fractions, each a whole number of times, by a whole number that isn't 0; nothing is looked at."""
+    tops, many = levelled(parts)
+    return reduced(sum([weight * top for weight, top in zip(weights, tops)]), many * bottom)
 
 
 def look_at_both(one, other):

@@ -1,19 +1,10 @@
 """Rows of fractions and their rights: solutions, free places, and mixes that show that there is no solution."""
 
 from platerest.errors import NoRows
-from platerest.quotients import divisor, is_fraction, reduced
+from platerest.quotients import NOUGHT, ONE, are_fractions, divisor, levelled, mixed, multiple, reduced
 
 MOST_ROWS = 60
-NOUGHT = (0, 1)
-ONE = (1, 1)
 LESS_ONE = (-1, 1)
-
-
-def are_fractions(thing, many):
-    """Whether the thing, whatever it is, is a tuple of so many fractions."""
-    if not isinstance(thing, tuple) or len(thing) != many:
-        return False
-    return all([is_fraction(part) for part in thing])
 
 
 def places_of(rows):
@@ -49,20 +40,15 @@ def in_common(parts, known):
     return common
 
 
-def multiple(bottoms):
-    """The least number that each of the bottoms divides."""
-    many = 1
-    for bottom in bottoms:
-        many = many // divisor(many, bottom) * bottom
-    return many
+def scale_of(line):
+    """The fraction by which the line's fractions become whole numbers with no divisor in common but 1."""
+    common = in_common([top for top, bottom in line], 0)
+    return (multiple([bottom for top, bottom in line]), common) if common else ONE
 
 
 def whole(line):
     """Whole numbers, with no divisor in common but 1, that stand to one another as the line's fractions do."""
-    common = in_common([top for top, bottom in line], 0)
-    if common == 0:
-        return [0] * len(line)
-    many = multiple([bottom for top, bottom in line])
+    many, common = scale_of(line)
     return [top // common * (many // bottom) for top, bottom in line]
 
 
@@ -117,21 +103,58 @@ def put_at(place, line, found):
     return reduced(bottom * line[-1] - others, bottom * line[place])
 
 
+def filled(steps, found):
+    """A list of what was found, with what has to stand at the place of each step, the last of them first."""
+    told = list(found)
+    for place, line in reversed(steps):
+        told[place] = put_at(place, line, told)
+    return told
+
+
+def right_to(row, right):
+    """The right of a row, times as many as the row is where it is made whole."""
+    many, common = scale_of(row)
+    return mixed((many,), (right,), common)
+
+
+def factors_of(bottoms):
+    """Numbers whose product is the least number that each of the bottoms divides."""
+    many = 1
+    found = []
+    for bottom in bottoms:
+        factor = bottom // divisor(many, bottom)
+        if factor > 1:
+            many *= factor
+            found.append(factor)
+    return found
+
+
+def lowered(part, factors):
+    """A fraction by all of the factors, one by one, as each of these is far smaller than their product."""
+    top, bottom = part
+    for factor in factors:
+        common = divisor(top, factor)
+        top //= common
+        bottom *= factor // common
+    return (top, bottom)
+
+
 def settled(rows, rights):
     """The places that aren't free, and the solution that is nought at all others; None where there is none.
 
-    Nothing is looked at here, so there may be more rows than are handed in from outside.
+    Nothing is looked at here, so there may be more rows than are handed in from outside. All rights are brought
+    to one bottom, which is taken back at the end: so great bottoms of theirs don't come into the rows.
     """
     places = places_of(rows)
-    lines = [whole(row + (right,)) for row, right in zip(rows, rights)]
+    ends = [right_to(row, right) for row, right in zip(rows, rights)]
+    tops, many = levelled(ends)
+    lines = [whole(row) + [top] for row, top in zip(rows, tops)]
     steps, left = stepped(lines, places)
     taken = [place for place, line in steps]
     if any([line[-1] != 0 for line in left]):
         return (taken, None)
-    found = [NOUGHT] * places
-    for place, line in reversed(steps):
-        found[place] = put_at(place, line, found)
-    return (taken, tuple(found))
+    factors = factors_of([bottom for top, bottom in ends])
+    return (taken, tuple([lowered(part, factors) for part in filled(steps, [NOUGHT] * places)]))
 
 
 def mix_of(rows, rights, taken):

@@ -240,6 +240,20 @@ class Forms(unittest.TestCase):
                     self.assertIn(id(node), allowed, f"{name}:{node.lineno}")
 
 
+    def test_sets_are_told_on_the_spot(self):
+        for name, tree in trees():
+            allowed = set()
+            for node in ast.walk(tree):
+                if isinstance(node, ast.Call) and getattr(node.func, "id", "") in ("len", "sorted"):
+                    allowed |= {id(part) for part in node.args}
+                elif isinstance(node, ast.Compare):
+                    allowed |= {id(part) for part in node.comparators}
+            for node in ast.walk(tree):
+                made = isinstance(node, ast.Call) and getattr(node.func, "id", "") in ("set", "frozenset")
+                if made or isinstance(node, (ast.Set, ast.SetComp)):
+                    self.assertIn(id(node), allowed, f"{name}:{node.lineno}")
+
+
 class Names(unittest.TestCase):
     def test_pythons_own_names(self):
         for place, node in nodes(ast.Name):

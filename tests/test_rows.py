@@ -9,7 +9,7 @@ from fractions import Fraction
 from platerest import rows as module
 from platerest.errors import NoRows
 from platerest.rows import is_mix, is_solution, solved
-from tests.things import GREAT, GREATEST, no_fractions, our_row, ours, theirs
+from tests.things import GREAT, GREATEST, no_fractions, our_row, ours, right_frees, theirs
 
 HALF = (1, 2)
 NOUGHT = (0, 1)
@@ -19,26 +19,6 @@ TWO = (2, 1)
 
 def our_rows(table):
     return tuple(our_row(line) for line in table)
-
-
-def rank(columns):
-    """How many of the columns, lists of Python's own fractions, are no mix of the others."""
-    left = [list(column) for column in columns]
-    many = 0
-    while left:
-        column = left.pop()
-        at = next((at for at, part in enumerate(column) if part != 0), None)
-        if at is not None:
-            many += 1
-            left = [[p - q * other[at] / column[at] for p, q in zip(other, column)] for other in left]
-    return many
-
-
-def right_frees(table, places):
-    """The free places, straight by their meaning: a column that adds nothing to those ahead of it."""
-    columns = [[line[place] for line in table] for place in range(places)]
-    ranks = [rank(columns[:many]) for many in range(places + 1)]
-    return tuple(place for place in range(places) if ranks[place + 1] == ranks[place])
 
 
 def small(chance):

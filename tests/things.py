@@ -21,6 +21,24 @@ def our_row(numbers):
     return tuple(ours(number) for number in numbers)
 
 
+def right_frees(table, places):
+    """The free places, straight by their meaning: a column of which nothing is left by those ahead of it."""
+    kept = []
+    frees = []
+    for place in range(places):
+        left = [line[place] for line in table]
+        for at, other in kept:
+            many = left[at] / other[at] if left[at] else 0
+            if many:
+                left = [one - many * part if part else one for one, part in zip(left, other)]
+        at = next((at for at, part in enumerate(left) if part != 0), None)
+        if at is None:
+            frees.append(place)
+        else:
+            kept.append((at, left))
+    return tuple(frees)
+
+
 def deep(depth):
     """A thing that is so many lists, tuples and dicts deep."""
     thing = (1, 1)
