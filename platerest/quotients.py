@@ -1,5 +1,6 @@
 """Fractions: tuples (top, bottom) of whole numbers in least terms, the bottom from 1 on."""
 
+from platerest.divisors import divisor
 from platerest.errors import NoFraction, NoWhole
 
 NOUGHT = (0, 1)
@@ -9,13 +10,6 @@ ONE = (1, 1)
 def is_whole(thing):
     """Whether the thing is a whole number: an int that is no truth."""
     return isinstance(thing, int) and not isinstance(thing, bool)
-
-
-def divisor(one, other):
-    """The greatest divisor that two whole numbers have in common; 0 where both are 0."""
-    while other:
-        one, other = other, one % other
-    return abs(one)
 
 
 def multiple(bottoms):
@@ -61,6 +55,12 @@ def mixed(weights, parts, bottom=1):
     """The sum of fractions, each a whole number of times, by a whole number that isn't 0; nothing is looked at."""
     tops, many = levelled(parts)
     return reduced(sum([weight * top for weight, top in zip(weights, tops)]), many * bottom)
+
+
+def product(ones, others):
+    """The sum of the products of fractions, place by place; nothing is looked at."""
+    tops, many = levelled(ones)
+    return mixed(tops, others, many)
 
 
 def look_at_both(one, other):

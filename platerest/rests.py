@@ -6,7 +6,7 @@ from platerest.plates import look_at_plate
 from platerest.quotients import NOUGHT, are_fractions, mixed
 from platerest.rows import comes_to_nought, settled, whole
 from platerest.strains import push_table, pushes_by
-from platerest.ways import held_by, keeps, look_at_holding, look_at_loads, ways_of
+from platerest.ways import held_by, keeps, look_at_holding, look_at_loads, loose_ways, others_of, ways_of
 
 
 def look_at_case(plate, holding, loads):
@@ -31,8 +31,7 @@ def rest_of(plate, holding, loads, frees):
     motions = [NOUGHT] * ways_of(plate)
     for way, move in holding:
         motions[way] = move
-    put = held_by(holding) + frees
-    loose = [way for way in range(ways_of(plate)) if way not in put]
+    loose = others_of(loose_ways(plate, holding), frees)
     table = push_table(plate, list(range(len(plate[1]))))
     rows = [tuple([table.get((way, other), NOUGHT) for other in loose]) for way in loose]
     # What the held ways' moves push alone is there already, so the others' motions push but the rest of the loads.
@@ -53,13 +52,24 @@ def paper_of(plate, holding, loads):
     return ("rest", rest_of(plate, holding, loads, frees))
 
 
+def rest_told(plate, holding, loads):
+    """The rest of the paper; refused where there is none."""
+    word, motions = paper_of(plate, holding, loads)
+    if word == "none":
+        raise NoRest("there is no rest")
+    return motions
+
+
+def is_balanced(plate, holding, loads, given):
+    """Whether pushes are the loads at each way that isn't held."""
+    return all([given[way] == loads[way] for way in loose_ways(plate, holding)])
+
+
 def is_rest_of(plate, holding, loads, thing):
     """Whether the thing, whatever it is, is a rest; all else isn't looked at."""
     if not are_fractions(thing, ways_of(plate)) or not keeps(holding, thing):
         return False
-    held = held_by(holding)
-    pushes = pushes_by(plate, thing)
-    return all([pushes[way] == loads[way] for way in range(ways_of(plate)) if way not in held])
+    return is_balanced(plate, holding, loads, pushes_by(plate, thing))
 
 
 def is_rest(plate, holding, loads, thing):
@@ -80,9 +90,14 @@ def paper(plate, holding, loads):
     return paper_of(plate, holding, loads)
 
 
+def pulls_by(plate, holding, loads, motions):
+    """The pulls by motions that are a rest; nothing is looked at."""
+    return tuple(differences(pushes_by(plate, motions), loads, held_by(holding)))
+
+
 def pulls(plate, holding, loads, motions):
     """For each way of the holding the push there, by motions that are a rest, less the load there."""
     look_at_case(plate, holding, loads)
     if not is_rest_of(plate, holding, loads, motions):
         raise NoRest("the motions are no rest")
-    return tuple(differences(pushes_by(plate, motions), loads, held_by(holding)))
+    return pulls_by(plate, holding, loads, motions)

@@ -1,7 +1,8 @@
 """Rows of fractions and their rights: solutions, free places, and mixes that show that there is no solution."""
 
+from platerest.divisors import divisor
 from platerest.errors import NoRows
-from platerest.quotients import NOUGHT, ONE, are_fractions, divisor, levelled, mixed, multiple, reduced
+from platerest.quotients import NOUGHT, ONE, are_fractions, levelled, mixed, multiple, reduced
 
 MOST_ROWS = 60
 LESS_ONE = (-1, 1)
@@ -111,10 +112,10 @@ def filled(steps, found):
     return told
 
 
-def right_to(row, right):
-    """The right of a row, times as many as the row is where it is made whole."""
-    many, common = scale_of(row)
-    return mixed((many,), (right,), common)
+def rights_to(rows, rights):
+    """The rights, each times as many as its row is where it is made whole."""
+    scales = [scale_of(row) for row in rows]
+    return [mixed((many,), (right,), common) for (many, common), right in zip(scales, rights)]
 
 
 def factors_of(bottoms):
@@ -139,22 +140,38 @@ def lowered(part, factors):
     return (top, bottom)
 
 
-def settled(rows, rights):
-    """The places that aren't free, and the solution that is nought at all others; None where there is none.
+def settled_by(steps, places, at):
+    """The solution that the steps have with their right of that number, nought at each place without a step."""
+    lines = [(place, line[:places] + [line[places + at]]) for place, line in steps]
+    return filled(lines, [NOUGHT] * places)
 
-    Nothing is looked at here, so there may be more rows than are handed in from outside. All rights are brought
-    to one bottom, which is taken back at the end: so great bottoms of theirs don't come into the rows.
+
+def settled_each(rows, columns):
+    """The places that aren't free, and for each column of rights the solution that is nought at all others; None
+    where there is none.
+
+    Nothing is looked at here, so there may be more rows than are handed in from outside. The rights of a column are
+    brought to one bottom, which is taken back at the end: so great bottoms of theirs don't come into the rows.
     """
     places = places_of(rows)
-    ends = [right_to(row, right) for row, right in zip(rows, rights)]
-    tops, many = levelled(ends)
-    lines = [whole(row) + [top] for row, top in zip(rows, tops)]
+    ends = [rights_to(rows, rights) for rights in columns]
+    tops = [levelled(parts)[0] for parts in ends]
+    lines = [whole(row) + [column[at] for column in tops] for at, row in enumerate(rows)]
     steps, left = stepped(lines, places)
-    taken = [place for place, line in steps]
-    if any([line[-1] != 0 for line in left]):
-        return (taken, None)
-    factors = factors_of([bottom for top, bottom in ends])
-    return (taken, tuple([lowered(part, factors) for part in filled(steps, [NOUGHT] * places)]))
+    found = []
+    for at, parts in enumerate(ends):
+        if any([line[places + at] != 0 for line in left]):
+            found.append(None)
+        else:
+            factors = factors_of([bottom for top, bottom in parts])
+            found.append(tuple([lowered(part, factors) for part in settled_by(steps, places, at)]))
+    return ([place for place, line in steps], found)
+
+
+def settled(rows, rights):
+    """The same of one column of rights alone: the places that aren't free, and the solution or None."""
+    taken, found = settled_each(rows, [rights])
+    return (taken, found[0])
 
 
 def mix_of(rows, rights, taken):

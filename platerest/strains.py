@@ -169,11 +169,16 @@ def look_at_moved(plate, motions):
     look_at_motions(plate, motions)
 
 
+def look_at_stresses(plate, given):
+    """Refuse what is no stresses of the plate."""
+    if not are_stresses_of(plate, given):
+        raise NoStresses("the stresses are no tuple with a tuple of three fractions for each piece")
+
+
 def look_at_stressed(plate, given):
     """Refuse what is no plate, then what is no stresses of it."""
     look_at_plate(plate)
-    if not are_stresses_of(plate, given):
-        raise NoStresses("the stresses are no tuple with a tuple of three fractions for each piece")
+    look_at_stresses(plate, given)
 
 
 def strain(plate, motions, piece):

@@ -4,7 +4,7 @@ fractions, by gradients and by the work of pushes."""
 from fractions import Fraction
 from itertools import combinations
 
-from tests.things import theirs
+from tests.things import ours, theirs
 
 NOUGHT = (0, 1)
 ONE = (1, 1)
@@ -170,6 +170,17 @@ def right_worth(plate, numbers):
     return work(plate, right_stresses(plate, numbers), numbers) / 2
 
 
+def right_stress_worth(plate, stresses):
+    """What stresses of Python's own fractions are worth, by the strains to which they are the stresses."""
+    l, m = plate[3]
+    total = Fraction(0)
+    for piece, (p, q, r) in enumerate(stresses):
+        s = Fraction(p + q) / (2 * l + 2 * m)
+        strain = ((p - l * s) / (2 * m), (q - l * s) / (2 * m), Fraction(r) / m)
+        total += volume(plate, piece) / 2 * sum(one * other for one, other in zip((p, q, r), strain))
+    return total
+
+
 def strain_table(plate, held):
     """The rows of all strains and of all held ways."""
     many = 2 * len(plate[0])
@@ -196,3 +207,20 @@ def chance_motions(chance, plate):
 def wholes(*numbers):
     """Whole numbers as fractions."""
     return tuple((number, 1) for number in numbers)
+
+
+def held_by(holding):
+    return tuple(way for way, move in holding)
+
+
+def chance_holding(chance, plate, most):
+    """A holding of some ways by chance, at chance moves."""
+    many = 2 * len(plate[0])
+    held = sorted(chance.sample(range(many), chance.randint(0, min(most, many))))
+    return tuple((way, ours(Fraction(chance.randint(-3, 3), chance.choice((1, 2, 5))))) for way in held)
+
+
+def keeping(holding, motions):
+    """The motions, but those of the holding at its ways."""
+    moves = dict(holding)
+    return tuple(moves.get(way, motion) for way, motion in enumerate(motions))

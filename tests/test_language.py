@@ -239,15 +239,19 @@ class Forms(unittest.TestCase):
                 if isinstance(node, ast.Call) and getattr(node.func, "id", "") in WALKED_AT_ONCE:
                     self.assertIn(id(node), allowed, f"{name}:{node.lineno}")
 
-
     def test_sets_are_told_on_the_spot(self):
         for name, tree in trees():
             allowed = set()
             for node in ast.walk(tree):
+                places = []
                 if isinstance(node, ast.Call) and getattr(node.func, "id", "") in ("len", "sorted"):
-                    allowed |= {id(part) for part in node.args}
+                    places = node.args
                 elif isinstance(node, ast.Compare):
-                    allowed |= {id(part) for part in node.comparators}
+                    places = node.comparators
+                for place in places:
+                    # Several may stand there with a sign between.
+                    both = [place.left, place.right] if isinstance(place, ast.BinOp) else [place]
+                    allowed |= {id(part) for part in both}
             for node in ast.walk(tree):
                 made = isinstance(node, ast.Call) and getattr(node.func, "id", "") in ("set", "frozenset")
                 if made or isinstance(node, (ast.Set, ast.SetComp)):

@@ -1,158 +1,160 @@
-"""What the functions of plates, strains, frees and rests refuse, of which class, and in which order."""
+"""What the functions of the program refuse, of which class, and in which order; and how they are called."""
 
 import copy
 import inspect
 import unittest
 
-from platerest import frees, plates, rests, strains
+from platerest import bounds, finer, frames, frees, plates, rests, strains, turnings
 from platerest.errors import (
-    NoHolding, NoLoads, NoMotions, NoPiece, NoPlate, NoRest, NoStresses, NoWays,
+    NoFrame, NoHolding, NoLoads, NoLot, NoMotions, NoPiece, NoPlate, NoRest, NoRounds, NoStresses, NoTurning, NoWay,
+    NoWays,
 )
+from tests import wrongs
 from tests.shapes import SQUARE, wholes
-from tests.things import GREATEST, deep, no_fractions, no_wholes
+from tests.wrongs import FRAME, HELD, HOLDING, KEEPING, LOADS, MOTIONS, STRESSES, TURNING
 
-HELD = (0, 1, 3)
-HOLDING = ((0, (0, 1)), (1, (0, 1)), (3, (1, 2)))
-LOADS = wholes(0, 0, 0, 0, 1, 0, 0, 2)
-MOTIONS = wholes(1, 2, 3, 4, 5, 6, 7, 8)
-STRESSES = (wholes(1, 2, 3), wholes(4, 5, 6))
+REST = rests.paper(SQUARE, HOLDING, LOADS)[1]
 
+# Arguments: name, something right, the refusal, and things that are refused.
+PLATE = ("plate", SQUARE, NoPlate, wrongs.no_plates)
+MOVED = ("motions", MOTIONS, NoMotions, wrongs.no_rows_of_eight)
+PIECE = ("piece", 1, NoPiece, wrongs.no_pieces)
+STRESSED = ("stresses", STRESSES, NoStresses, wrongs.no_stresses)
+HOLD = ("holding", HOLDING, NoHolding, wrongs.no_holdings)
+LOADED = ("loads", LOADS, NoLoads, wrongs.no_rows_of_eight)
+WAYS = ("held", HELD, NoWays, wrongs.no_ways)
+ANYTHING = ("thing", None, None, list)
+RESTING = ("motions", REST, NoRest, wrongs.no_rows_of_eight)
+CASE = (PLATE, HOLD, LOADED)
+KEPT = ("motions", KEEPING, NoMotions, lambda: wrongs.no_rows_of_eight() + wrongs.unkept())
+BALANCED = ("stresses", strains.stresses(SQUARE, REST), NoStresses, wrongs.no_stresses)
+LOOSE = ("way", 6, NoWay, wrongs.no_way_numbers)
+ROUNDS = ("rounds", 2, NoRounds, wrongs.no_rounds)
+LED = ("frame", FRAME, NoFrame, wrongs.no_frames)
+KEPT_WAYS = ("kept", (0, 5), NoWays, wrongs.no_kept)
 
-def no_plates():
-    found = no_wholes() + [0, GREATEST, list(SQUARE), SQUARE[:3], SQUARE + SQUARE[3:], MOTIONS]
-    found += [SQUARE[:3] + ((1, 0),), SQUARE[:2] + ((1,),) + SQUARE[3:], (SQUARE[0], ((0, 1, 2),), (1,), (1, 1))]
-    return found + [(SQUARE[0][:3] + ((1, 2),),) + SQUARE[1:2] + ((True, 1), (1, 1))]
-
-
-def no_rows_of_eight():
-    """Things of which none is a tuple of eight fractions."""
-    found = [thing for thing in no_fractions() + no_wholes() + [0, 8, -1]]
-    found += [MOTIONS[:7], MOTIONS + MOTIONS[:1], list(MOTIONS), (MOTIONS,), (1,) * 8, tuple([1, 1] for way in MOTIONS)]
-    found += [MOTIONS[:at] + (thing,) + MOTIONS[at + 1:] for at in (0, 3, 7) for thing in no_fractions()]
-    return found
-
-
-def no_pieces():
-    return no_wholes() + [-1, 2, 3, -GREATEST, GREATEST, (0,), "0"]
-
-
-def no_stresses():
-    found = no_fractions() + no_wholes() + [0, STRESSES[:1], STRESSES * 2, list(STRESSES), STRESSES[0]]
-    found += [(STRESSES[0], list(STRESSES[1])), (STRESSES[0], STRESSES[1][:2]), (STRESSES[0] + ((1, 1),), STRESSES[1])]
-    found += [(STRESSES[0], (thing,) + STRESSES[1][1:]) for thing in no_fractions()]
-    found += [((STRESSES[0][:2] + (thing,)), STRESSES[1]) for thing in no_fractions()]
-    found += [(thing, STRESSES[1]) for thing in no_fractions() + [()]]
-    return found
-
-
-def no_ways():
-    found = [thing for thing in no_wholes() if thing not in ((), (1,))] + [0, 7, [0, 1], (1, 0), (0, 0), (1, 1, 2)]
-    found += [(-1,), (8,), (0, 8), (-1, 0), (0, 1, GREATEST), (True,), (False, 1), (0, True), (0, 1, "2"), (None,)]
-    return found + [(0, (1,)), ([0],), ({},), (deep(8),), (0, 2, 1), (7, 7), tuple(range(9)), (0, 1, 2, 2), range(3)]
-
-
-def no_holdings():
-    found = [thing for thing in no_wholes() if thing != ()] + [0, [(0, (0, 1))], (0, (0, 1)), ((0, 1),), ((0,),)]
-    found += [(way,) for way in no_wholes()] + [((way, (0, 1)),) for way in no_wholes() + [-1, 8, GREATEST, -GREATEST]]
-    found += [((0, move),) for move in no_fractions()] + [((0, (0, 1)), (1, move)) for move in no_fractions()]
-    found += [([0, (0, 1)],), ((0, (0, 1), 0),), ((1, (0, 1)), (0, (0, 1))), ((0, (0, 1)), (0, (0, 1)))]
-    found += [((0, (0, 1)), (0, (1, 1))), ((0, (1, 1)), (0, (0, 1))), ((0, (0, 1)), (7, (0, 1)), (8, (0, 1)))]
-    return found + [((3, (0, 1)), (2, (5, 1))), ((True, (0, 1)),), ((0, (0, 1)), (True, (0, 1))), {0: (0, 1)}, HELD]
-
-
-PLATE = ("plate", SQUARE, NoPlate, no_plates)
-MOVED = ("motions", MOTIONS, NoMotions, no_rows_of_eight)
-PIECE = ("piece", 1, NoPiece, no_pieces)
-STRESSED = ("stresses", STRESSES, NoStresses, no_stresses)
-KEPT = ("held", HELD, NoWays, no_ways)
-HOLD = ("holding", HOLDING, NoHolding, no_holdings)
-LOADED = ("loads", LOADS, NoLoads, no_rows_of_eight)
-ANYTHING = ("thing", None, None, lambda: [])
-REST = ("motions", None, NoRest, no_rows_of_eight)
-
-# Each function with its arguments: name, something right, the refusal, and things that are refused.
 CALLS = (
     (plates.sides, (PLATE,)), (plates.rim, (PLATE,)), (plates.parts, (PLATE,)), (plates.room, (PLATE,)),
     (strains.strain, (PLATE, MOVED, PIECE)), (strains.stress, (PLATE, MOVED, PIECE)),
     (strains.are_stresses, (PLATE, ANYTHING)), (strains.stresses, (PLATE, MOVED)),
     (strains.pushes, (PLATE, STRESSED)), (strains.worth_of, (PLATE, MOVED)), (strains.stress_worth, (PLATE, STRESSED)),
-    (frees.is_free, (PLATE, KEPT, ANYTHING)), (frees.free_motions, (PLATE, KEPT)), (frees.free_ways, (PLATE, KEPT)),
-    (frees.firm, (PLATE, KEPT)),
-    (rests.is_rest, (PLATE, HOLD, LOADED, ANYTHING)), (rests.is_runaway, (PLATE, HOLD, LOADED, ANYTHING)),
-    (rests.paper, (PLATE, HOLD, LOADED)), (rests.pulls, (PLATE, HOLD, LOADED, REST)),
+    (frees.is_free, (PLATE, WAYS, ANYTHING)), (frees.free_motions, (PLATE, WAYS)), (frees.free_ways, (PLATE, WAYS)),
+    (frees.firm, (PLATE, WAYS)),
+    (rests.is_rest, CASE + (ANYTHING,)), (rests.is_runaway, CASE + (ANYTHING,)),
+    (rests.paper, CASE), (rests.pulls, CASE + (RESTING,)),
+    (bounds.above, CASE + (KEPT,)), (bounds.below, CASE + (BALANCED,)), (bounds.worth, CASE),
+    (bounds.gap, CASE + (KEPT,)), (bounds.step, CASE + (KEPT, LOOSE)), (bounds.swept, CASE + (KEPT, ROUNDS)),
+    (frames.frame_of, (PLATE, ("lot", (0, 1), NoLot, wrongs.no_lots))),
+    (frames.with_loads, (LED, ("loads", {0: (1, 2), 5: (-1, 1)}, NoLoads, wrongs.no_dict_loads))),
+    (frames.joined, (("one",) + LED[1:], ("other",) + LED[1:])), (frames.led, (LED, KEPT_WAYS)),
+    (frames.inner, (LED, KEPT_WAYS, ("motions", MOTIONS[:2], NoMotions, wrongs.no_two_fractions))),
+    (frames.frame_rest, (LED, ("holding", ((2, (1, 2)),), NoHolding, wrongs.no_frame_holdings))),
+    (finer.finer, (PLATE,)), (finer.carried, (PLATE, MOVED)), (finer.loads_over, (PLATE, LOADED)),
+    (turnings.is_turning, (PLATE, ANYTHING)), (turnings.turnings, (PLATE,)), (turnings.even, (PLATE, MOVED)),
+    (turnings.turned, (PLATE, ("turning", TURNING, NoTurning, wrongs.no_turnings), MOVED)),
 )
+DEFAULTS = {
+    (frees.free_motions, "held"): (), (frees.free_ways, "held"): (), (frees.firm, "held"): (),
+    (bounds.swept, "rounds"): 1,
+}
+# These are handed in by their names alone.
+STARRED = ("rounds",)
+
+
+def asked(deed, arguments, handed):
+    """What a function tells of things by their places, or by their names where it is to be so."""
+    names = [argument[0] for argument in arguments]
+    named = {name: thing for name, thing in zip(names, handed) if name in STARRED}
+    return deed(*[thing for name, thing in zip(names, handed) if name not in STARRED], **named)
+
+
+def rights(arguments):
+    return [argument[1] for argument in arguments]
 
 
 class Refusals(unittest.TestCase):
-    def refused(self, error, deed, handed):
+    def refused(self, error, deed, arguments, handed):
         with self.assertRaises(error) as caught:
-            deed(*handed)
+            asked(deed, arguments, handed)
         self.assertIs(type(caught.exception), error)
 
-    def test_each_argument(self):
+    def each_wrong(self):
+        """Each function with each of its arguments wrong in turn."""
         for deed, arguments in CALLS:
-            right = [good for name, good, error, wrongs in arguments]
-            for at, (name, good, error, wrongs) in enumerate(arguments):
-                for thing in wrongs():
-                    self.refused(error, deed, right[:at] + [thing] + right[at + 1:])
+            for at, (name, good, error, things) in enumerate(arguments):
+                yield deed, arguments, at, error, things()
+
+    def test_each_argument(self):
+        for deed, arguments, at, error, things in self.each_wrong():
+            right = rights(arguments)
+            for thing in things:
+                self.refused(error, deed, arguments, right[:at] + [thing] + right[at + 1:])
 
     def test_the_first_wrong_argument_goes_first(self):
-        for deed, arguments in CALLS:
-            right = [good for name, good, error, wrongs in arguments]
-            for at, (name, good, error, wrongs) in enumerate(arguments):
-                for thing in wrongs()[:30]:
-                    for other in (None, 7, (), "a", [1], wholes(1, 2)):
-                        self.refused(error, deed, right[:at] + [thing] + [other] * (len(right) - at - 1))
+        for deed, arguments, at, error, things in self.each_wrong():
+            right = rights(arguments)
+            for thing in things[:30]:
+                for other in (None, 7, (), "a", [1], wholes(1, 2)):
+                    self.refused(error, deed, arguments, right[:at] + [thing] + [other] * (len(right) - at - 1))
 
     def test_things_hang_on_the_plate(self):
         small = (SQUARE[0][:3], ((0, 1, 2),), (1,), (1, 1))
-        self.refused(NoMotions, strains.stresses, (small, MOTIONS))
         self.assertEqual(len(strains.stresses(small, MOTIONS[:6])), 1)
-        self.refused(NoPiece, strains.strain, (small, MOTIONS[:6], 1))
-        self.refused(NoStresses, strains.pushes, (small, STRESSES))
-        self.refused(NoWays, frees.free_ways, (small, (6,)))
         self.assertEqual(frees.free_ways(small, (5,)), (3, 4))
-        self.refused(NoHolding, rests.paper, (small, ((6, (0, 1)),), LOADS[:6]))
-        self.refused(NoLoads, rests.paper, (small, ((5, (0, 1)),), LOADS))
+        for error, deed, handed in (
+            (NoMotions, strains.stresses, (small, MOTIONS)), (NoPiece, strains.strain, (small, MOTIONS[:6], 1)),
+            (NoStresses, strains.pushes, (small, STRESSES)), (NoWays, frees.free_ways, (small, (6,))),
+            (NoHolding, rests.paper, (small, ((6, (0, 1)),), LOADS[:6])),
+            (NoLoads, rests.paper, (small, ((5, (0, 1)),), LOADS)),
+            (NoMotions, bounds.above, (small, (), LOADS[:6], MOTIONS)),
+            (NoWay, bounds.step, (small, (), LOADS[:6], MOTIONS[:6], 6)), (NoLot, frames.frame_of, (small, (1,))),
+            (NoMotions, finer.carried, (small, MOTIONS)), (NoLoads, finer.loads_over, (small, LOADS)),
+            (NoTurning, turnings.turned, (small, TURNING, MOTIONS[:6])), (NoMotions, turnings.even, (small, MOTIONS)),
+        ):
+            with self.assertRaises(error) as caught:
+                deed(*handed)
+            self.assertIs(type(caught.exception), error)
 
     def test_what_is_handed_in_stays_as_it_was(self):
-        for deed, arguments in CALLS:
-            right = [good for name, good, error, wrongs in arguments]
-            for at, (name, good, error, wrongs) in enumerate(arguments):
-                things = wrongs()
-                kept = repr(copy.deepcopy(things))
-                for thing in things:
-                    self.refused(error, deed, right[:at] + [thing] + right[at + 1:])
-                self.assertEqual(repr(things), kept)
+        for deed, arguments, at, error, things in self.each_wrong():
+            right = rights(arguments)
+            kept = repr(copy.deepcopy(things)), repr(copy.deepcopy(right))
+            for thing in things:
+                self.refused(error, deed, arguments, right[:at] + [thing] + right[at + 1:])
+            asked(deed, arguments, right)
+            self.assertEqual((repr(things), repr(right)), kept)
 
     def test_names_and_defaults(self):
         for deed, arguments in CALLS:
             parameters = inspect.signature(deed).parameters
-            self.assertEqual(list(parameters), [name for name, good, error, wrongs in arguments])
+            self.assertEqual(list(parameters), [argument[0] for argument in arguments])
             for name, parameter in parameters.items():
-                self.assertIs(parameter.kind, inspect.Parameter.POSITIONAL_OR_KEYWORD)
-                defaulted = deed in (frees.free_motions, frees.free_ways, frees.firm) and name == "held"
-                self.assertEqual(parameter.default, () if defaulted else inspect.Parameter.empty)
+                starred = inspect.Parameter.KEYWORD_ONLY
+                plain = inspect.Parameter.POSITIONAL_OR_KEYWORD
+                self.assertIs(parameter.kind, starred if name in STARRED else plain)
+                self.assertEqual(parameter.default, DEFAULTS.get((deed, name), inspect.Parameter.empty))
 
     def test_by_names(self):
         for deed, arguments in CALLS:
-            named = {name: good for name, good, error, wrongs in arguments}
-            if deed is rests.pulls:
-                named["motions"] = rests.paper(SQUARE, HOLDING, LOADS)[1]
-            backwards = dict(reversed(list(named.items())))
-            self.assertEqual(deed(**backwards), deed(*named.values()))
+            named = {argument[0]: argument[1] for argument in reversed(arguments)}
+            self.assertEqual(deed(**named), asked(deed, arguments, rights(arguments)))
+
+    def test_defaults_left_out(self):
+        for deed, arguments in CALLS:
+            given = [argument for argument in arguments if (deed, argument[0]) not in DEFAULTS]
+            if len(given) < len(arguments):
+                filled = [DEFAULTS.get((deed, argument[0]), argument[1]) for argument in arguments]
+                self.assertEqual(asked(deed, given, rights(given)), asked(deed, arguments, filled))
 
     def test_the_same_asked_again_is_told_alike(self):
         for deed, arguments in CALLS:
-            right = [good for name, good, error, wrongs in arguments]
-            if deed is rests.pulls:
-                right[-1] = rests.paper(SQUARE, HOLDING, LOADS)[1]
-            told = deed(*right)
-            again = deed(*copy.deepcopy(right))
+            right = rights(arguments)
+            told = asked(deed, arguments, right)
+            again = asked(deed, arguments, copy.deepcopy(right))
             self.assertEqual(repr(told), repr(again))
             if isinstance(told, list):
                 told.clear()
-                self.assertEqual(repr(deed(*right)), repr(again))
+                self.assertEqual(repr(asked(deed, arguments, right)), repr(again))
 
 
 if __name__ == "__main__":

@@ -10,8 +10,8 @@ from platerest.quotients import is_fraction
 from platerest.rests import is_rest, is_runaway, paper, pulls
 from platerest.strains import stresses
 from tests.shapes import (
-    APART, BOW, GRID, NOUGHT, ONE, PLATES, RING, SQUARE, TRIANGLE, all_theirs, chance_motions, chance_plate,
-    right_pushes, right_stresses, tower, wholes,
+    APART, BOW, GRID, NOUGHT, ONE, PLATES, RING, SQUARE, TRIANGLE, all_theirs, chance_holding, chance_motions,
+    chance_plate, held_by, right_pushes, right_stresses, tower, wholes,
 )
 from tests.things import GREAT, GREATEST, no_fractions, no_wholes, our_row, ours, theirs
 
@@ -20,21 +20,10 @@ PULLED = wholes(0, 0, 4, 0, 0, 0)
 STRETCHED = wholes(0, 0, 3, 0, 0, -1)
 
 
-def ways(holding):
-    return tuple(way for way, move in holding)
-
-
-def chance_holding(chance, plate, most):
-    """A holding of some ways by chance, at chance moves."""
-    many = 2 * len(plate[0])
-    held = sorted(chance.sample(range(many), chance.randint(0, min(most, many))))
-    return tuple((way, ours(Fraction(chance.randint(-3, 3), chance.choice((1, 2, 5))))) for way in held)
-
-
 def balanced(plate, holding, loads, motions):
     """Whether motions are a rest, by the work of their stresses on each way."""
     pushes = right_pushes(plate, right_stresses(plate, all_theirs(motions)))
-    held = ways(holding)
+    held = held_by(holding)
     kept = all(motions[way] == move for way, move in holding)
     return kept and all(pushes[way] == theirs(loads[way]) for way in range(len(loads)) if way not in held)
 
@@ -56,7 +45,7 @@ class Tests(unittest.TestCase):
         self.assertIs(type(motions), tuple)
         self.assertEqual(len(motions), 2 * len(plate[0]))
         self.assertTrue(all(is_fraction(part) for part in motions))
-        held = ways(holding)
+        held = held_by(holding)
         told_ones = free_motions(plate, held)
         working = [one for one in told_ones if work_of(loads, one) != 0]
         if word == "rest":
@@ -78,7 +67,7 @@ class Tests(unittest.TestCase):
         self.assertTrue(all(is_fraction(part) for part in told))
         self.assertEqual(len(told), len(holding))
         total = all_theirs(loads)
-        for way, pull in zip(ways(holding), told):
+        for way, pull in zip(held_by(holding), told):
             total[way] += theirs(pull)
         self.assertEqual((sum(total[::2]), sum(total[1::2])), (0, 0))
         for x, y in ((0, 0), (7, -3)):
@@ -86,7 +75,7 @@ class Tests(unittest.TestCase):
                      for number, at in enumerate(plate[0])]
             self.assertEqual(sum(about), 0)
         pushes = right_pushes(plate, right_stresses(plate, all_theirs(motions)))
-        right = [pushes[way] - theirs(loads[way]) for way in ways(holding)]
+        right = [pushes[way] - theirs(loads[way]) for way in held_by(holding)]
         self.assertEqual(told, our_row(right))
 
 
