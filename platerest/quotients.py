@@ -63,12 +63,16 @@ def product(ones, others):
     return mixed(tops, others, many)
 
 
+def look_at_fraction(thing):
+    """Refuse what is no fraction."""
+    if not is_fraction(thing):
+        raise NoFraction("that is no fraction")
+
+
 def look_at_both(one, other):
     """Refuse whichever of the two is no fraction."""
-    if not is_fraction(one):
-        raise NoFraction("the first one is no fraction")
-    if not is_fraction(other):
-        raise NoFraction("the second one is no fraction")
+    look_at_fraction(one)
+    look_at_fraction(other)
 
 
 def made(top, bottom=1):

@@ -26,17 +26,21 @@ def differences(ones, others, ways):
     return [mixed((1, -1), (ones[way], others[way])) for way in ways]
 
 
+def rows_of(plate, loose):
+    """For each of the loose ways the row of what its push is by a motion of 1 at each of them."""
+    table = push_table(plate, list(range(len(plate[1]))))
+    return [tuple([table.get((way, other), NOUGHT) for other in loose]) for way in loose]
+
+
 def rest_of(plate, holding, loads, frees):
     """The rest that is nought at the free ways, where the loads work on no free motion."""
     motions = [NOUGHT] * ways_of(plate)
     for way, move in holding:
         motions[way] = move
     loose = others_of(loose_ways(plate, holding), frees)
-    table = push_table(plate, list(range(len(plate[1]))))
-    rows = [tuple([table.get((way, other), NOUGHT) for other in loose]) for way in loose]
     # What the held ways' moves push alone is there already, so the others' motions push but the rest of the loads.
     rights = differences(loads, pushes_by(plate, motions), loose)
-    for way, motion in zip(loose, settled(rows, rights)[1]):
+    for way, motion in zip(loose, settled(rows_of(plate, loose), rights)[1]):
         motions[way] = motion
     return tuple(motions)
 

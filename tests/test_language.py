@@ -297,6 +297,43 @@ class Names(unittest.TestCase):
             self.assertNotIn(node.attr, UNUSED_NAMES, place)
 
 
+class Kept(unittest.TestCase):
+    def test_lists_and_dicts_of_a_top_are_only_read(self):
+        for name, tree in trees():
+            kept = {node.targets[0].id for node in tree.body
+                    if isinstance(node, ast.Assign) and isinstance(node.value, (ast.Dict, ast.List))}
+            for node in tree.body:
+                if isinstance(node, ast.ImportFrom):
+                    kept |= {alias.name for alias in node.names if alias.name.isupper()}
+            above = {id(part): node for node in ast.walk(tree) for part in ast.iter_child_nodes(node)}
+            for node in ast.walk(tree):
+                if isinstance(node, ast.Name) and node.id in kept and isinstance(node.ctx, ast.Load):
+                    holder = above[id(node)]
+                    if isinstance(holder, ast.Attribute):
+                        self.assertEqual(holder.attr, "get", f"{name}:{node.lineno}")
+                    elif isinstance(holder, ast.Subscript):
+                        self.assertIsInstance(holder.ctx, ast.Load, f"{name}:{node.lineno}")
+
+    def test_nothing_is_written_within_two_underscores(self):
+        for place, node in nodes(ast.FunctionDef):
+            if node.name in ("__eq__", "__len__", "__repr__", "__str__"):
+                self.assertIsInstance(node.body[-1], ast.Return, place)
+                for part in ast.walk(node):
+                    self.assertNotIsInstance(getattr(part, "ctx", None), (ast.Store, ast.Del), place)
+
+    def test_lists_are_sorted_by_sorted(self):
+        for place, node in nodes(ast.Attribute):
+            self.assertNotEqual(node.attr, "sort", place)
+
+    def test_a_class_without_init_is_made_of_texts_alone(self):
+        bare = {node.name for place, node in nodes(ast.ClassDef)
+                if not [part for part in node.body if isinstance(part, ast.FunctionDef)]}
+        for place, node in nodes(ast.Raise):
+            if node.exc is not None and node.exc.func.id in bare:
+                self.assertEqual([type(part) for part in node.exc.args], [ast.Constant], place)
+                self.assertEqual(node.exc.keywords, [], place)
+
+
 class Errors(unittest.TestCase):
     def test_errors_are_taken_by_name(self):
         for place, node in nodes(ast.ExceptHandler):

@@ -4,16 +4,20 @@ import copy
 import inspect
 import unittest
 
-from platerest import bounds, finer, frames, frees, plates, rests, strains, turnings
+from platerest import bounds, finer, frames, frees, plates, rests, strains, sums, texts, turnings
 from platerest.errors import (
-    NoFrame, NoHolding, NoLoads, NoLot, NoMotions, NoPiece, NoPlate, NoRest, NoRounds, NoStresses, NoTurning, NoWay,
-    NoWays,
+    NoFraction, NoFrame, NoHolding, NoLoads, NoLot, NoMotions, NoPiece, NoPlate, NoRest, NoRounds, NoStresses, NoText,
+    NoThick, NoTurning, NoWay, NoWays,
 )
 from tests import wrongs
 from tests.shapes import SQUARE, wholes
-from tests.wrongs import FRAME, HELD, HOLDING, KEEPING, LOADS, MOTIONS, STRESSES, TURNING
+from tests.things import no_fractions, no_wholes
+from tests.wrongs import FRAME, HELD, HOLDING, KEEPING, LOADS, MOTIONS, REST, STRESSES, TURNING
 
-REST = rests.paper(SQUARE, HOLDING, LOADS)[1]
+
+def no_texts():
+    return [thing for thing in no_wholes() if not isinstance(thing, str)] + [0, 1, (1, 2)]
+
 
 # Arguments: name, something right, the refusal, and things that are refused.
 PLATE = ("plate", SQUARE, NoPlate, wrongs.no_plates)
@@ -25,13 +29,16 @@ LOADED = ("loads", LOADS, NoLoads, wrongs.no_rows_of_eight)
 WAYS = ("held", HELD, NoWays, wrongs.no_ways)
 ANYTHING = ("thing", None, None, list)
 RESTING = ("motions", REST, NoRest, wrongs.no_rows_of_eight)
-CASE = (PLATE, HOLD, LOADED)
+HELD_SO = (PLATE, HOLD, LOADED)
 KEPT = ("motions", KEEPING, NoMotions, lambda: wrongs.no_rows_of_eight() + wrongs.unkept())
 BALANCED = ("stresses", strains.stresses(SQUARE, REST), NoStresses, wrongs.no_stresses)
-LOOSE = ("way", 6, NoWay, wrongs.no_way_numbers)
+LOOSE = ("way", 6, NoWay, wrongs.no_loose_ways)
 ROUNDS = ("rounds", 2, NoRounds, wrongs.no_rounds)
 LED = ("frame", FRAME, NoFrame, wrongs.no_frames)
 KEPT_WAYS = ("kept", (0, 5), NoWays, wrongs.no_kept)
+ANY_WAY = (6, NoWay, wrongs.no_ways_at_all)
+LOAD_CASE = (wrongs.CASE, NoRest, wrongs.no_load_cases)
+WEIGHT = ((-2, 3), NoFraction, no_fractions)
 
 CALLS = (
     (plates.sides, (PLATE,)), (plates.rim, (PLATE,)), (plates.parts, (PLATE,)), (plates.room, (PLATE,)),
@@ -40,10 +47,10 @@ CALLS = (
     (strains.pushes, (PLATE, STRESSED)), (strains.worth_of, (PLATE, MOVED)), (strains.stress_worth, (PLATE, STRESSED)),
     (frees.is_free, (PLATE, WAYS, ANYTHING)), (frees.free_motions, (PLATE, WAYS)), (frees.free_ways, (PLATE, WAYS)),
     (frees.firm, (PLATE, WAYS)),
-    (rests.is_rest, CASE + (ANYTHING,)), (rests.is_runaway, CASE + (ANYTHING,)),
-    (rests.paper, CASE), (rests.pulls, CASE + (RESTING,)),
-    (bounds.above, CASE + (KEPT,)), (bounds.below, CASE + (BALANCED,)), (bounds.worth, CASE),
-    (bounds.gap, CASE + (KEPT,)), (bounds.step, CASE + (KEPT, LOOSE)), (bounds.swept, CASE + (KEPT, ROUNDS)),
+    (rests.is_rest, HELD_SO + (ANYTHING,)), (rests.is_runaway, HELD_SO + (ANYTHING,)),
+    (rests.paper, HELD_SO), (rests.pulls, HELD_SO + (RESTING,)),
+    (bounds.above, HELD_SO + (KEPT,)), (bounds.below, HELD_SO + (BALANCED,)), (bounds.worth, HELD_SO),
+    (bounds.gap, HELD_SO + (KEPT,)), (bounds.step, HELD_SO + (KEPT, LOOSE)), (bounds.swept, HELD_SO + (KEPT, ROUNDS)),
     (frames.frame_of, (PLATE, ("lot", (0, 1), NoLot, wrongs.no_lots))),
     (frames.with_loads, (LED, ("loads", {0: (1, 2), 5: (-1, 1)}, NoLoads, wrongs.no_dict_loads))),
     (frames.joined, (("one",) + LED[1:], ("other",) + LED[1:])), (frames.led, (LED, KEPT_WAYS)),
@@ -52,13 +59,21 @@ CALLS = (
     (finer.finer, (PLATE,)), (finer.carried, (PLATE, MOVED)), (finer.loads_over, (PLATE, LOADED)),
     (turnings.is_turning, (PLATE, ANYTHING)), (turnings.turnings, (PLATE,)), (turnings.even, (PLATE, MOVED)),
     (turnings.turned, (PLATE, ("turning", TURNING, NoTurning, wrongs.no_turnings), MOVED)),
+    (sums.influence, (PLATE, WAYS, ("way",) + ANY_WAY, ("other",) + ANY_WAY)),
+    (sums.influences, (PLATE, WAYS)), (sums.thickened, (PLATE, PIECE, ("thick", 7, NoThick, wrongs.no_thicks))),
+    (sums.summed, (PLATE, ("one",) + LOAD_CASE, ("other",) + LOAD_CASE, ("first",) + WEIGHT, ("second",) + WEIGHT)),
+    (texts.fraction_text, (("fraction", (-3, 4), NoFraction, no_fractions),)), (texts.plate_text, (PLATE,)),
+    (texts.row_text, (("row", MOTIONS, NoFraction, wrongs.no_fraction_rows),)),
+    (texts.read_fraction, (("text", "-3/4", NoText, no_texts),)),
+    (texts.read_row, (("text", "1 -3/4", NoText, no_texts),)),
+    (texts.read_plate, (("text", texts.plate_text(SQUARE), NoText, no_texts),)),
 )
 DEFAULTS = {
     (frees.free_motions, "held"): (), (frees.free_ways, "held"): (), (frees.firm, "held"): (),
-    (bounds.swept, "rounds"): 1,
+    (bounds.swept, "rounds"): 1, (sums.summed, "first"): (1, 1), (sums.summed, "second"): (1, 1),
 }
 # These are handed in by their names alone.
-STARRED = ("rounds",)
+STARRED = ("rounds", "first", "second")
 
 
 def asked(deed, arguments, handed):

@@ -1,5 +1,6 @@
 """Things of which none is what a function asks for, and right ones beside them: all of the plate SQUARE."""
 
+from platerest.rests import paper
 from tests.shapes import SQUARE, wholes
 from tests.things import GREATEST, deep, no_fractions, no_wholes
 
@@ -9,6 +10,8 @@ LOADS = wholes(0, 0, 0, 0, 1, 0, 0, 2)
 MOTIONS = wholes(1, 2, 3, 4, 5, 6, 7, 8)
 # Motions that keep the holding.
 KEEPING = wholes(0, 0, 3) + ((1, 2),) + wholes(5, 6, 7, 8)
+REST = paper(SQUARE, HOLDING, LOADS)[1]
+CASE = (HOLDING, LOADS, REST)
 STRESSES = (wholes(1, 2, 3), wholes(4, 5, 6))
 FRAME = ((0, 2, 5), (wholes(2, -1, 0), wholes(-1, 3, 1), wholes(0, 1, 5)), wholes(1, 0, -2))
 TURNING = ((0, 2, 1, 3), (0, 1, 1, 0))
@@ -56,9 +59,9 @@ def no_holdings():
     return found + [((3, (0, 1)), (2, (5, 1))), ((True, (0, 1)),), ((0, (0, 1)), (True, (0, 1))), {0: (0, 1)}, HELD]
 
 
-def no_way_numbers():
+def no_loose_ways():
     """Things of which none is the number of a way that HOLDING leaves loose."""
-    return no_wholes() + [-1, 8, 9, -GREATEST, GREATEST, (2,), "2", (0, 1), 0, 1, 3]
+    return no_ways_at_all() + list(HELD)
 
 
 def no_rounds():
@@ -144,3 +147,46 @@ def no_turnings():
     found += [((0, True, 2, 3), (1, 0, 0, 1)), ((False, 1, 2, 3), (1, 0, 0, 1)), (same, (True, 0, 0, 1))]
     found += [(same, (1, 0, 0, True)), (same, (1, False, 0, 1)), (same, (1, 0, False, 1)), (other, (0, True, 1, 0))]
     return found + [((0, 0, 0, 0), (1, 0, 0, 1)), ((0, 1, 2, GREATEST), (1, 0, 0, 1)), ((-4, -3, -2, -1), (1, 0, 0, 1))]
+
+
+def no_ways_at_all():
+    """Things of which none is the number of a way."""
+    return no_wholes() + [-1, 8, 9, -GREATEST, GREATEST, (2,), "2", (0, 1)]
+
+
+def no_load_cases():
+    """Things of which none is a load case."""
+    found = no_wholes() + no_fractions() + [0, CASE[:2], CASE + ((),), list(CASE), (CASE,), SQUARE, FRAME]
+    found += [(thing, LOADS, REST) for thing in no_holdings()]
+    found += [(HOLDING, thing, REST) for thing in no_rows_of_eight()]
+    found += [(HOLDING, LOADS, thing) for thing in no_rows_of_eight() + [MOTIONS, KEEPING]]
+    # The motions are no rest of other moves, of other loads, or where a way is let go; a load at a held way is one.
+    found += [(((0, (0, 1)), (1, (0, 1)), (3, (1, 3))), LOADS, REST), (HOLDING[:2], LOADS, REST)]
+    return found + [(HOLDING, LOADS[:7] + ((3, 1),), REST), (HOLDING, LOADS[:2] + ((1, 1),) + LOADS[3:], REST)]
+
+
+def no_thicks():
+    return no_wholes() + [0, 10, 11, -1, -9, GREATEST, -GREATEST, (1,), "1", (1, 1)]
+
+
+def no_fraction_rows():
+    """Things of which none is a tuple of fractions."""
+    found = [thing for thing in no_fractions() if thing not in ((), ((1, 1), (1, 1)))]
+    found += [[], [(1, 1)], {}, {0: (1, 1)}, "", "1 2", 0, (1, 1), (0, 1), ((1, 1), 1), ((1, 1), None)]
+    return found + [((1, 1), thing) for thing in no_fractions()] + [(thing,) for thing in no_fractions()]
+
+
+def no_fraction_texts():
+    """Texts of which none is a fraction as it is written."""
+    found = ["", " ", "-", "--1", "-0", "00", "01", "-01", "+1", "1.", "1.0", "1e3", "a", "0x1", "1_0", "1,5", "1 "]
+    found += [" 1", "1/1", "-3/1", "0/1", "0/2", "2/4", "-2/4", "1/0", "0/0", "1/-2", "-1/-2", "1//2", "1/2/3", "/"]
+    found += ["/2", "1/", "1 /2", "1/ 2", "1/02", "01/2", "1/+2", "-/2", "1\n", "\n1", "1\t2", "1/2\n", "1\n/2", "1 2"]
+    found += ["1/2 3", "- 1"]
+    return found + ["nought", "None", "True", "(1, 2)", "6/3", "~" * 3000, "1" * 2999 + "a", "3/2" * 2, "0" * 3000]
+
+
+def no_row_texts():
+    """Texts of which none is a row of fractions as it is written."""
+    found = [text for text in no_fraction_texts() if text not in ("-", "1 2", "1/2 3")]
+    found += ["1  2", " 1 2", "1 2 ", "1 -", "- 1", "- -", "1 2/4", "1,2", "1\t2", "1\n2", "0 -0", "1 2 03", "  "]
+    return found
