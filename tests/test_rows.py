@@ -8,7 +8,8 @@ from fractions import Fraction
 
 from platerest import rows as module
 from platerest.errors import NoRows
-from platerest.rows import is_mix, is_solution, solved
+from platerest.rows import is_mix, is_solution, settled_each, solved
+from tests.shapes import wholes
 from tests.things import GREAT, GREATEST, no_fractions, our_row, ours, right_frees, theirs
 
 HALF = (1, 2)
@@ -223,6 +224,29 @@ class Sixty(Tests):
         self.refused_by_all(((ONE,),) * 61, (ONE,) * 61)
         self.refused_by_all(((ONE,),) * 61, (ONE,) * 60)
         self.refused_by_all(((ONE,),) * 200, (ONE,) * 200)
+
+
+class Columns(unittest.TestCase):
+    def test_several_rights_at_once(self):
+        rows = [wholes(1, 2), wholes(2, 4)]
+        goals = [wholes(1, 2), wholes(1, 3), wholes(0, 0), wholes(0, 1), our_row([Fraction(1, 3), Fraction(2, 3)])]
+        taken, found = settled_each(rows, goals)
+        self.assertEqual(taken, [0])
+        self.assertEqual(found, [wholes(1, 0), None, wholes(0, 0), None, our_row([Fraction(1, 3), 0])])
+        self.assertEqual(settled_each(rows, []), ([0], []))
+        self.assertEqual(settled_each([], [()]), ([], [()]))
+
+    def test_each_as_by_itself(self):
+        chance = random.Random(77)
+        for turn in range(60):
+            many, places = chance.randint(1, 5), chance.randint(0, 5)
+            rows = [our_row(chance.randint(-1, 1) for place in range(places)) for row in range(many)]
+            goals = [our_row(Fraction(chance.randint(-2, 2), chance.choice((1, 3, 10 ** 50))) for row in rows)
+                     for column in range(4)]
+            taken, found = settled_each(rows, goals)
+            for rights, solution in zip(goals, found):
+                told = solved(tuple(rows), rights)
+                self.assertEqual(solution, told[1] if told[0] == "solved" else None)
 
 
 class IsSolution(Tests):
