@@ -1,9 +1,8 @@
 """Fractions, rows of fractions and plates written as texts, and read from just such texts."""
 
 from platerest.errors import NoFraction, NoText
-from platerest.plates import (
-    MOST_CORNERS, MOST_PIECES, THICKEST, is_between, is_corner, is_piece, is_plate, is_stuff, look_at_plate,
-)
+from platerest.plates import MOST_CORNERS, MOST_PIECES, THICKEST, is_between, is_corner, is_piece
+from platerest.plates import is_plate, is_stuff, look_at_plate
 from platerest.quotients import are_fractions, is_fraction, look_at_fraction
 
 # Python refuses to write or read very long numbers at once, so they are written and read by so many figures.
